@@ -1,0 +1,1 @@
+"""Signalhouse: routes that never meet."""
