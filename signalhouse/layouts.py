@@ -29,6 +29,26 @@ def told_apart(link, other):
     return any(point == mine and lie != my_lie for point, lie in other[2] for mine, my_lie in wants)
 
 
+def other_end(end):
+    """The other end of the same section."""
+    section, side = end
+    return (section, 1 - side)
+
+
+def links_by_end(layout):
+    """From each end that has links to a list of (the end beyond, wants), as the links are told."""
+    links = {}
+    for one, other, wants in layout.links:
+        links.setdefault(one, []).append((other, wants))
+        links.setdefault(other, []).append((one, wants))
+    return links
+
+
+def signals_by_end(layout):
+    """From each end at which a signal stands to the signal."""
+    return {end: signal for signal, end in layout.signals}
+
+
 class Layout:
     """A station, which grows part by part.
 

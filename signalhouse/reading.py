@@ -25,7 +25,7 @@ def layout_text(layout):
     rows = [f"section {name}" for name in layout.sections]
     rows += [f"point {name} in {section}" for name, section in layout.points]
     rows += [_link_row(link) for link in layout.links]
-    rows += [f"signal {name} at {_end_text(end)}" for name, end in layout.signals]
+    rows += [f"signal {name} at {end_text(end)}" for name, end in layout.signals]
     return "\n".join(rows)
 
 
@@ -38,14 +38,14 @@ def _take_row(layout, words):
             return layout.add_point(name, section)
         case ["link", one, other, *rest]:
             wants = _read_wants(rest)
-            return wants is not None and layout.add_link(_read_end(one), _read_end(other), wants)
+            return wants is not None and layout.add_link(read_end(one), read_end(other), wants)
         case ["signal", name, "at", end]:
-            return layout.add_signal(name, _read_end(end))
+            return layout.add_signal(name, read_end(end))
         case _:
             return False
 
 
-def _read_end(word):
+def read_end(word):
     """The end that a word tells; its side is None where the word tells no side."""
     return (word[:-2], SIDE_OF.get(word[-2:]))
 
@@ -61,14 +61,15 @@ def _read_wants(words):
     return wants
 
 
-def _end_text(end):
+def end_text(end):
+    """The word that tells an end."""
     section, side = end
     return f"{section}.{side}"
 
 
 def _link_row(link):
     one, other, wants = link
-    row = f"link {_end_text(one)} {_end_text(other)}"
+    row = f"link {end_text(one)} {end_text(other)}"
     lead = "when"
     for point, lie in wants:
         row += f" {lead} {point} {lie}"
